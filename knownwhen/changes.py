@@ -1,6 +1,7 @@
 """What each call that changes the pending story makes of it."""
 
-from knownwhen.lines import lines_of_either, patched, unlike_by_thing, value_at
+from knownwhen.keyed import keys_of_either
+from knownwhen.lines import patched, unlike_by_thing, value_at
 from knownwhen.moments import both, without
 
 
@@ -44,7 +45,7 @@ def undone(history, place):
 
 def recalled(story, known, moments):
     places = {}
-    for line in lines_of_either(story, known):
+    for line in keys_of_either(story, known):
         places[line[0]] = moments
     return patched(story, known, places)
 

@@ -31,5 +31,9 @@ class History:
     def known_by_now(self):
         return self.known_before(len(self.versions))
 
+    # Each version, behind the bounds of the known moments at which it is what was known.
+    def spans(self):
+        return [(self.known_from[place:place + 2], story) for place, story in enumerate(self.versions)]
+
     def asked(self, moment):
         return self.pending if moment == PENDING else self.known_at(moment)

@@ -10,6 +10,9 @@ MOST_ANSWERED = 8000
 # Stands where a known moment is asked for and means the pending story.
 PENDING = -1
 
+# Stands where the first moment behind a run is told and means that the run never ends.
+NEVER = -1
+
 ACCEPTED = 0
 OUT_OF_RANGE = -1
 NOT_A_SET = -2

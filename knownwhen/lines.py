@@ -1,11 +1,11 @@
 """Stories, each kept as its lines: a dict from (thing, value) to the bounds of the moments.
 
-A line without moments is not kept, so that the same story always has the same lines.
 A story is never changed where it is: a change makes another, as versions must stay.
 """
 
+from knownwhen.keyed import gathered, keys_of_either
 from knownwhen.limits import MOST_BOUNDS, MOST_LINES
-from knownwhen.moments import any_of, both, holds, just_one
+from knownwhen.moments import both, holds, just_one
 
 
 # None stands for no value, as every whole number may be a value.
@@ -20,32 +20,18 @@ def lines_at(story, moment):
     return sorted([line for line in story if holds(story[line], moment)])
 
 
-def lines_of_either(first, second):
-    return list(first) + [line for line in second if line not in first]
-
-
 # For each thing of which the stories tell unlike, the bounds of the moments at which they do.
 def unlike_by_thing(first, second):
-    parts = {}
-    for line in lines_of_either(first, second):
-        moments = just_one(first.get(line, []), second.get(line, []))
-        if moments:
-            parts[line[0]] = parts.get(line[0], []) + [moments]
-    result = {}
-    for thing in parts:
-        result[thing] = any_of(parts[thing])
-    return result
-
-
-def unlike(first, second):
-    by_thing = unlike_by_thing(first, second)
-    return any_of(list(by_thing.values()))
+    pairs = []
+    for line in keys_of_either(first, second):
+        pairs.append((line[0], just_one(first.get(line, []), second.get(line, []))))
+    return gathered(pairs)
 
 
 # The story, but with what source tells of a thing at the moments that places has for it.
 def patched(story, source, places):
     result = {}
-    for line in lines_of_either(story, source):
+    for line in keys_of_either(story, source):
         old = story.get(line, [])
         turned = both(just_one(old, source.get(line, [])), places.get(line[0], []))
         bounds = just_one(old, turned)

@@ -1,5 +1,7 @@
 """Sets of moments, each told by the rising list of its bounds."""
 
+from knownwhen.limits import NEVER
+
 
 def holds(bounds, moment):
     return len([bound for bound in bounds if bound <= moment]) % 2 == 1
@@ -38,3 +40,14 @@ def just_one(first, second):
 
 def without(first, second):
     return just_one(first, both(first, second))
+
+
+# The moments that lie so far ahead of those of the set; what would lie ahead of the moment 0 is cut off.
+def ahead(bounds, distance):
+    start = [0] if holds(bounds, distance) else []
+    return start + [bound - distance for bound in bounds if bound > distance]
+
+
+# A pair for each longest run of moments: its first moment, and the first behind it.
+def runs(bounds):
+    return list(zip(bounds[0::2], bounds[1::2] + [NEVER]))

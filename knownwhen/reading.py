@@ -13,10 +13,20 @@ NAMES = {
     7: "drop",
     8: "value",
     9: "cut",
+    10: "timeline",
+    11: "knowledge",
+    12: "behind",
+    13: "mistaken",
+    14: "picture",
+    15: "when",
+    16: "difference",
+    17: "changed",
+    18: "settled",
     19: "commits",
 }
 
-# A label is a thing or a value; asked is a known moment, or the pending story in its place.
+# A label is a thing or a value; asked is a known moment, or the pending story in its place;
+# a distance between moments has the range of a moment, and stands as one here.
 KINDS = {
     "tell": ("label", "label", "set"),
     "deny": ("label", "set"),
@@ -28,6 +38,15 @@ KINDS = {
     "drop": (),
     "value": ("label", "moment", "asked"),
     "cut": ("moment", "asked"),
+    "timeline": ("label", "asked"),
+    "knowledge": ("label", "moment"),
+    "behind": ("label", "moment"),
+    "mistaken": ("label", "moment"),
+    "picture": ("label",),
+    "when": ("label", "label", "moment"),
+    "difference": ("asked", "asked"),
+    "changed": ("moment",),
+    "settled": ("moment",),
     "commits": (),
 }
 

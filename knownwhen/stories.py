@@ -2,17 +2,17 @@
 
 from knownwhen.changes import story_after
 from knownwhen.history import History
+from knownwhen.keyed import unlike
 from knownwhen.limits import ACCEPTED, MOST_VERSIONS, NO_SUCH_COMMIT, NOT_LATER, STORY_TOO_LARGE, TOO_MANY_VERSIONS
-from knownwhen.lines import fits, unlike
+from knownwhen.lines import fits
 from knownwhen.questions import answer_of_question, short_enough
 from knownwhen.reading import refusal_of_form, split_calls
 
-QUESTIONS = ("value", "cut", "commits")
+CHANGES = ("tell", "deny", "rename", "move", "undo", "recall", "drop")
+NAMING_A_COMMIT = ("undo", "changed")
 
 
 def change(history, name, arguments):
-    if name == "undo" and history.place_of(arguments[0]) is None:
-        return [NO_SUCH_COMMIT]
     story = story_after(history, name, arguments)
     if not fits(story):
         return [STORY_TOO_LARGE]
@@ -34,11 +34,13 @@ def answer_of_call(history, name, arguments):
     refusal = refusal_of_form(name, arguments)
     if refusal != ACCEPTED:
         return [refusal]
-    if name in QUESTIONS:
-        return short_enough(answer_of_question(history, name, arguments))
+    if name in NAMING_A_COMMIT and history.place_of(arguments[0]) is None:
+        return [NO_SUCH_COMMIT]
+    if name in CHANGES:
+        return change(history, name, arguments)
     if name == "commit":
         return commit(history, arguments[0])
-    return change(history, name, arguments)
+    return short_enough(answer_of_question(history, name, arguments))
 
 
 def answers(calls):

@@ -4,7 +4,8 @@ from knownwhen.stories import answers
 
 NUMBERS = {
     "tell": 0, "deny": 1, "rename": 2, "move": 3, "undo": 4, "recall": 5, "commit": 6, "drop": 7,
-    "value": 8, "cut": 9, "commits": 19,
+    "value": 8, "cut": 9, "timeline": 10, "knowledge": 11, "behind": 12, "mistaken": 13, "picture": 14, "when": 15,
+    "difference": 16, "changed": 17, "settled": 18, "commits": 19,
 }
 
 

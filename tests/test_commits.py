@@ -59,6 +59,14 @@ class Commits(unittest.TestCase):
     def test_none(self):
         self.assertEqual(run(("commits",)), [[0]])
 
+    def test_one(self):
+        self.assertEqual(last(("commit", 0), ("commits",)), [1, 0])
+        self.assertEqual(last(("commit", FAR), ("commits",)), [1, FAR])
+
+    def test_sixty_four(self):
+        calls = [("commit", moment * 3) for moment in range(64)]
+        self.assertEqual(last(*calls, ("commits",)), [64] + [moment * 3 for moment in range(64)])
+
     def test_in_order(self):
         self.assertEqual(last(("commit", 0), ("commit", 7), ("commit", FAR), ("commits",)), [3, 0, 7, FAR])
 

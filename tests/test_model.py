@@ -9,6 +9,10 @@ from tests.helper import run
 SMALL = 12
 LARGE = 220
 
+CHANGES = ("tell", "tell", "tell", "deny", "rename", "move", "undo", "recall", "commit", "commit", "commit", "drop")
+QUESTIONS = ("value", "cut", "timeline", "knowledge", "behind", "mistaken", "picture", "when", "difference", "changed",
+             "settled", "commits")
+
 
 def bounds_of(moments, count):
     result = []
@@ -22,6 +26,28 @@ def bounds_of(moments, count):
 
 def members(bounds, count):
     return {moment for moment in range(count) if len([b for b in bounds if b <= moment]) % 2 == 1}
+
+
+def entries_of(values):
+    """The entries of values, one a moment, the last of which stays for ever; None is none."""
+    result = []
+    for moment, value in enumerate(values):
+        if value is None or (moment > 0 and values[moment - 1] == value):
+            continue
+        behind = moment
+        while behind < len(values) and values[behind] == value:
+            behind += 1
+        result.append((moment, behind if behind < len(values) else -1, value))
+    return result
+
+
+def told_flat(entries):
+    return [len(entries)] + [number for entry in entries for number in entry]
+
+
+def told_bounds(moments, count):
+    bounds = bounds_of(moments, count)
+    return [len(bounds)] + bounds
 
 
 class Model:
@@ -133,79 +159,170 @@ class Model:
     def commits(self):
         return [len(self.versions)] + [moment for moment, version in self.versions]
 
+    def by_now(self):
+        return self.versions[-1][1] if self.versions else {}
+
+    def known_moments(self):
+        """So many that the last of them stands for all behind it."""
+        return range(self.versions[-1][0] + 2 if self.versions else 2)
+
+    def moments(self):
+        return range(max(self.count, len(self.known_moments())))
+
+    def told(self, story, x, v):
+        return story.get((x, min(v, self.count - 1)))
+
+    def entries(self, story, x):
+        return entries_of([self.told(story, x, v) for v in range(self.count)])
+
+    def timeline(self, x, k):
+        return told_flat(self.entries(self.asked(k), x))
+
+    def knowledge(self, x, v):
+        return told_flat(entries_of([self.told(self.known_at(k), x, v) for k in self.known_moments()]))
+
+    def behind(self, x, n):
+        return told_flat(entries_of([self.told(self.known_at(m + n), x, m) for m in self.moments()]))
+
+    def mistaken(self, x, n):
+        found = [m for m in self.moments()
+                 if self.told(self.known_at(m + n), x, m) != self.told(self.by_now(), x, m)]
+        return told_bounds(found, len(self.moments()))
+
+    def picture(self, x):
+        states = [tuple(self.entries(self.known_at(k), x)) or None for k in self.known_moments()]
+        sheets = entries_of(states)
+        result = [len(sheets)]
+        for first, behind, entries in sheets:
+            result += [first, behind] + told_flat(entries)
+        return result
+
+    def when(self, x, y, v):
+        found = [k for k in self.known_moments() if self.told(self.known_at(k), x, v) == y]
+        return told_bounds(found, len(self.known_moments()))
+
+    def difference(self, j, k):
+        first, second = self.asked(j), self.asked(k)
+        unlike = {}
+        for place in set(first) | set(second):
+            if first.get(place) != second.get(place):
+                unlike.setdefault(place[0], set()).add(place[1])
+        result = [len(unlike)]
+        for thing in sorted(unlike):
+            result += [thing] + told_bounds(unlike[thing], self.count)
+        return result
+
+    def changed(self, k):
+        if k not in [moment for moment, version in self.versions]:
+            return [-3]
+        version, before = self.known_at(k), self.known_at(k - 1)
+        unlike = [place[1] for place in set(version) | set(before) if version.get(place) != before.get(place)]
+        return told_bounds(unlike, self.count)
+
+    def settled(self, v):
+        now = self.cut_of(self.by_now(), v)
+        unlike = [k for k in self.known_moments() if self.cut_of(self.known_at(k), v) != now]
+        return [max(unlike) + 1 if unlike else 0]
+
+    def cut_of(self, story, v):
+        return {thing: value for (thing, moment), value in story.items() if moment == v}
+
+    def answer(self, call):
+        answer = getattr(self, call[0])(*call[1:])
+        return answer if len(answer) <= 8000 else [-30]
+
 
 class Draw:
     """Calls drawn from a source that is the same every time."""
 
-    def __init__(self, seed, count, labels, most):
+    def __init__(self, seed, count, things, values, most, step, share):
         self.source = random.Random(seed)
         self.count = count
-        self.labels = labels
+        self.things = things
+        self.values = values
         self.most = most
-        self.now = 0
+        self.step = step
+        self.share = share
+        self.named = [0]
 
-    def label(self):
-        return self.source.randrange(-1, self.labels)
+    def thing(self):
+        return self.source.randrange(-1, self.things)
+
+    def value(self):
+        return self.source.randrange(-1, self.values)
 
     def moment(self):
         return self.source.randrange(self.count)
 
     def known(self):
-        return self.source.randrange(self.now + 2)
+        if self.source.random() < 0.5:
+            return self.source.choice(self.named)
+        return self.source.randrange(self.named[-1] + 2)
 
     def bounds(self):
         length = self.source.randint(0, self.most)
         return sorted(self.source.sample(range(self.count), length))
 
     def commit(self):
-        self.now += self.source.randrange(3)
-        return ("commit", self.now)
+        self.named.append(self.named[-1] + self.source.randrange(self.step))
+        return ("commit", self.named[-1])
+
+    def asked(self):
+        return -1 if self.source.random() < 0.3 else self.known()
 
     def call(self):
-        name = self.source.choice(("tell", "tell", "tell", "deny", "rename", "move", "undo", "recall", "commit",
-                                   "commit", "drop", "value", "cut", "commits"))
+        name = self.source.choice(CHANGES if self.source.random() < self.share else QUESTIONS)
         if name == "drop" and self.source.random() < 0.6:
             name = "tell"
         made = {
-            "tell": lambda: (name, self.label(), self.label(), self.bounds()),
-            "deny": lambda: (name, self.label(), self.bounds()),
-            "rename": lambda: (name, self.label(), self.label(), self.bounds()),
-            "move": lambda: (name, self.label(), self.moment(), self.moment()),
+            "tell": lambda: (name, self.thing(), self.value(), self.bounds()),
+            "deny": lambda: (name, self.thing(), self.bounds()),
+            "rename": lambda: (name, self.value(), self.value(), self.bounds()),
+            "move": lambda: (name, self.thing(), self.moment(), self.moment()),
             "undo": lambda: (name, self.known()),
             "recall": lambda: (name, self.known(), self.bounds()),
             "commit": self.commit,
             "drop": lambda: (name,),
-            "value": lambda: (name, self.label(), self.moment(), self.known() - 1),
-            "cut": lambda: (name, self.moment(), self.known() - 1),
+            "value": lambda: (name, self.thing(), self.moment(), self.asked()),
+            "cut": lambda: (name, self.moment(), self.asked()),
+            "timeline": lambda: (name, self.thing(), self.asked()),
+            "knowledge": lambda: (name, self.thing(), self.moment()),
+            "behind": lambda: (name, self.thing(), self.known()),
+            "mistaken": lambda: (name, self.thing(), self.known()),
+            "picture": lambda: (name, self.thing()),
+            "when": lambda: (name, self.thing(), self.value(), self.moment()),
+            "difference": lambda: (name, self.asked(), self.asked()),
+            "changed": lambda: (name, self.known()),
+            "settled": lambda: (name, self.moment()),
             "commits": lambda: (name,),
         }
         return made[name]()
 
 
 class AgainstTheModel(unittest.TestCase):
-    def compare(self, seed, count, labels, most):
-        draw = Draw(seed, count, labels, most)
+    def compare(self, seed, *drawn):
+        draw = Draw(seed, *drawn)
         calls = [draw.call() for number in range(100)]
         # What the pending story is in the end is looked at moment by moment.
-        calls += [("cut", moment, -1) for moment in range(0, count, max(1, count // 20))][:20]
-        model = Model(count)
-        expected = [getattr(model, call[0])(*call[1:]) for call in calls]
+        calls += [("cut", moment, -1) for moment in range(0, draw.count, max(1, draw.count // 20))][:20]
+        model = Model(draw.count)
+        expected = [model.answer(call) for call in calls]
         found = run(*calls)
         for call, one, other in zip(calls, found, expected):
             self.assertEqual(one, other, (seed, call))
         return expected
 
+    def refusals(self, seeds, *drawn):
+        return {answer[0] for seed in range(seeds) for answer in self.compare(seed, *drawn) if answer[0] < 0}
+
     def test_few_things_and_few_moments(self):
-        refused = []
-        for seed in range(150):
-            refused += [answer[0] for answer in self.compare(seed, SMALL, 3, 5) if answer[0] < 0]
-        self.assertEqual(sorted(set(refused)), [-4, -3])
+        self.assertEqual(self.refusals(200, SMALL, 3, 3, 5, 3, 0.6), {-4, -3})
 
     def test_many_lines_and_many_bounds(self):
-        refused = []
-        for seed in range(12):
-            refused += [answer[0] for answer in self.compare(seed, LARGE, 12, 64) if answer[0] < 0]
-        self.assertEqual(sorted(set(refused)), [-6, -4, -3])
+        self.assertEqual(self.refusals(20, LARGE, 12, 12, 64, 20, 0.85), {-6, -4, -3})
+
+    def test_one_thing_with_many_entries(self):
+        self.assertEqual(self.refusals(20, LARGE, 0, 12, 64, 20, 0.8), {-6, -4, -3})
 
 
 if __name__ == "__main__":

@@ -1,6 +1,6 @@
 import unittest
 
-from knownwhen.moments import any_of, both, covered, holds, just_one, without
+from knownwhen.moments import ahead, any_of, both, covered, holds, just_one, runs, without
 
 SETS = ([], [0], [3], [3, 7], [3, 7, 9], [0, 4, 5, 8], [7, 9], [2, 3, 7, 12, 15])
 
@@ -44,6 +44,27 @@ class Sets(unittest.TestCase):
         self.assertEqual(covered([[0, 5], [2, 8], [4]], 2), [2, 8])
         self.assertEqual(covered([[0, 5], [2, 8], [4]], 3), [4, 5])
         self.assertEqual(covered([], 1), [])
+
+    def test_so_far_ahead(self):
+        for bounds in SETS:
+            for distance in range(18):
+                expected = [moment - distance for moment in members(bounds) if moment >= distance]
+                found = ahead(bounds, distance)
+                self.assertEqual([moment for moment in range(20 - distance) if holds(found, moment)], expected)
+                self.assertEqual(found, sorted(set(found)))
+
+    def test_ahead_of_the_moment_0(self):
+        self.assertEqual(ahead([3, 7, 9], 3), [0, 4, 6])
+        self.assertEqual(ahead([3, 7, 9], 4), [0, 3, 5])
+        self.assertEqual(ahead([3, 7, 9], 7), [2])
+        self.assertEqual(ahead([3, 7, 9], 10 ** 9), [0])
+        self.assertEqual(ahead([3, 7], 7), [])
+
+    def test_runs(self):
+        self.assertEqual(runs([]), [])
+        self.assertEqual(runs([0]), [(0, -1)])
+        self.assertEqual(runs([3, 7]), [(3, 7)])
+        self.assertEqual(runs([3, 7, 9]), [(3, 7), (9, -1)])
 
 
 if __name__ == "__main__":

@@ -1,8 +1,7 @@
-"""Promises 8 and 9: value and cut, and the length that an answer may have."""
+"""Promises 8 and 9: value and cut."""
 
 import unittest
 
-from knownwhen.questions import short_enough
 from tests.helper import last, run
 
 FAR = 1000000000
@@ -61,13 +60,6 @@ class Cut(unittest.TestCase):
         for thing in range(1, 65):
             answer += [thing, -thing]
         self.assertEqual(last(*calls, ("cut", 0, -1)), answer)
-
-
-class Length(unittest.TestCase):
-    # No answer of the calls that there are so far can get this long.
-    def test_eight_thousand_numbers_and_no_more(self):
-        self.assertEqual(short_enough([0] * 8000), [0] * 8000)
-        self.assertEqual(short_enough([0] * 8001), [-30])
 
 
 if __name__ == "__main__":

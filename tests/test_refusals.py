@@ -20,6 +20,15 @@ TAKEN = {
     "commit": (("commit", 6), ("moment",)),
     "value": (("value", 1, 4, 5), ("label", "moment", "asked")),
     "cut": (("cut", 4, 5), ("moment", "asked")),
+    "timeline": (("timeline", 1, 5), ("label", "asked")),
+    "knowledge": (("knowledge", 1, 4), ("label", "moment")),
+    "behind": (("behind", 1, 4), ("label", "moment")),
+    "mistaken": (("mistaken", 1, 4), ("label", "moment")),
+    "picture": (("picture", 1), ("label",)),
+    "when": (("when", 1, 2, 4), ("label", "label", "moment")),
+    "difference": (("difference", 0, 5), ("asked", "asked")),
+    "changed": (("changed", 5), ("moment",)),
+    "settled": (("settled", 4), ("moment",)),
 }
 BEYOND = {
     "label": (LABEL + 1, -LABEL - 1, HUGE, -HUGE),
@@ -82,14 +91,18 @@ class Ranges(unittest.TestCase):
                                  [[0, 3], [1, value], [1, thing, value], [0, 3], [1, thing, 0]])
 
     def test_the_pending_story_where_it_may_not_be_asked_for(self):
-        self.assertEqual(run(*START, ("undo", -1), ("recall", -1, [0]), ("commit", -1))[-3:], [[-1]] * 3)
+        self.assertEqual(run(*START, ("undo", -1), ("recall", -1, [0]), ("commit", -1), ("changed", -1))[-4:],
+                         [[-1]] * 4)
 
     def test_the_pending_story_where_it_may_be_asked_for(self):
-        self.assertEqual(run(*START, ("value", 1, 4, -1), ("cut", 4, -1))[-2:], [[1, 2], [1, 1, 2]])
+        self.assertEqual(run(*START, ("value", 1, 4, -1), ("cut", 4, -1), ("timeline", 1, -1), ("difference", -1, 4),
+                             ("difference", 4, -1))[-5:],
+                         [[1, 2], [1, 1, 2], [1, 0, 50, 2], [1, 1, 2, 0, 50], [1, 1, 2, 0, 50]])
 
     def test_minus_one_is_no_valid_moment(self):
-        self.assertEqual(run(("value", 1, -1, -1), ("cut", -1, -1), ("move", 1, -1, 3), ("move", 1, 3, -1)),
-                         [[-1]] * 4)
+        self.assertEqual(run(("value", 1, -1, -1), ("cut", -1, -1), ("move", 1, -1, 3), ("move", 1, 3, -1),
+                             ("knowledge", 1, -1), ("when", 1, 1, -1), ("settled", -1)),
+                         [[-1]] * 7)
 
 
 class SetsAsked(unittest.TestCase):
@@ -119,6 +132,7 @@ class Order(unittest.TestCase):
 
     def test_range_before_no_such_commit(self):
         self.assertEqual(run(("undo", FAR + 1), ("undo", FAR)), [[-1], [-3]])
+        self.assertEqual(run(("changed", FAR + 1), ("changed", FAR)), [[-1], [-3]])
 
     def test_range_before_not_later(self):
         self.assertEqual(run(("commit", FAR), ("commit", -1), ("commit", FAR + 1), ("commit", FAR)),
@@ -142,7 +156,7 @@ class Order(unittest.TestCase):
 class NothingChanged(unittest.TestCase):
     def test_a_refused_call_leaves_all_as_it_was(self):
         before = run(*START, ("tell", 9, 9, [2, 60]), *state())[-5:]
-        refused = [("undo", 4), ("commit", 5)]
+        refused = [("undo", 4), ("changed", 4), ("commit", 5)]
         for kind, arguments in BEYOND.items():
             for name, call, place in places(kind):
                 refused.append(changed(call, place, arguments[0]))
